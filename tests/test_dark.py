@@ -2,19 +2,15 @@
 
 import unittest
 from fractions import Fraction
-from functools import lru_cache
 from itertools import combinations, product
 from math import gcd
 
-from calls import ask, average, begin, chance, colour, surely, until, wear
+from calls import ask, average, begin, buy, chance, colour, lose, mend, surely, undress, until, wash, wear
+from in_the_dark import draws_till, pairs_of, spread, told_as
 
 SMALL = [list(socks) for colours in (1, 2, 3) for socks in product(range(4), repeat=colours)]
 LARGE = [[8], [8, 8], [8, 8, 8], [7, 5, 3, 1, 0], [5, 5, 5, 5, 4], [1, 2, 3, 4, 5], [8, 1, 1, 1, 1], [6, 6, 6, 6],
          [8, 7, 6, 3], [1, 1, 1, 1, 1]]
-
-
-def pairs_of(counts):
-    return sum(count // 2 for count in counts)
 
 
 def counts_of(drawn):
@@ -25,38 +21,6 @@ def draws(socks, size):
     """Each choice of so many single socks, told by their colours."""
     single = [which for which, count in enumerate(socks) for number in range(count)]
     return list(combinations(single, size))
-
-
-@lru_cache(None)
-def spread(left, drawn, size):
-    """How likely each number of pairs is, when size more socks are drawn one after another."""
-    if size == 0:
-        return {pairs_of(drawn): Fraction(1)}
-    chances = {}
-    for which, count in enumerate(left):
-        if count > 0:
-            then_left = left[:which] + (count - 1,) + left[which + 1:]
-            then_drawn = drawn[:which] + (drawn[which] + 1,) + drawn[which + 1:]
-            for pairs, likely in spread(then_left, then_drawn, size - 1).items():
-                chances[pairs] = chances.get(pairs, 0) + likely * Fraction(count, sum(left))
-    return chances
-
-
-@lru_cache(None)
-def draws_till(left, drawn, pairs):
-    if pairs_of(drawn) >= pairs:
-        return Fraction(0)
-    total = Fraction(1)
-    for which, count in enumerate(left):
-        if count > 0:
-            then_left = left[:which] + (count - 1,) + left[which + 1:]
-            then_drawn = drawn[:which] + (drawn[which] + 1,) + drawn[which + 1:]
-            total += Fraction(count, sum(left)) * draws_till(then_left, then_drawn, pairs)
-    return total
-
-
-def told_as(value):
-    return [Fraction(value).numerator, Fraction(value).denominator]
 
 
 class SmallDrawers(unittest.TestCase):
@@ -116,6 +80,20 @@ class LargeDrawers(unittest.TestCase):
         self.check([begin(8, 8, 8), wear(1), wear(1), wear(2)], [8, 4, 6])
         self.check([begin(3, 5, 2), wear(0), wear(2)], [1, 5, 0])
         self.check([begin(2), wear(0)], [0])
+
+    def test_some_in_the_wash_and_some_washed(self):
+        self.check([begin(6, 5), wear(0), wear(1), undress(), wear(0)], [2, 3])
+        self.check([begin(6, 5), wear(0), wear(1), undress(), wear(0), wash()], [4, 5])
+
+    def test_some_lost(self):
+        self.check([begin(6, 5), wear(0), undress(), wear(1), lose(0, 0), lose(1, 1), lose(2, 0)], [3, 3])
+        self.check([begin(2, 2), lose(0, 0), lose(0, 0), lose(0, 1)], [0, 1])
+        self.check([begin(4), wear(0), undress(), lose(2, 0), wash()], [3])
+
+    def test_some_bought_and_mended(self):
+        self.check([begin(0, 3, 2), wear(1), buy(0, 5), lose(0, 2)], [5, 1, 1])
+        self.check([begin(0, 3, 2), wear(1), buy(0, 5), lose(0, 2), mend()], [6, 2, 2])
+        self.check([begin(7, 7, 7), mend()], [8, 8, 8])
 
 
 class Fractions(unittest.TestCase):

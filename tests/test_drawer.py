@@ -2,7 +2,6 @@ import unittest
 
 from calls import (ask, ask_last, average, begin, buy, chance, colour, look, lose, mend, odd, surely, undress, until,
                    wash, wear)
-from nightsocks.drawer import Drawer, answer_call
 
 
 class Begin(unittest.TestCase):
@@ -204,13 +203,9 @@ class Wear(unittest.TestCase):
         self.assertEqual(ask(begin(0, 1, 2, 3), wear(0), wear(1), wear(2), wear(3))[1:], [[-6], [-6], [0], [1]])
 
     def test_the_pair_is_worn(self):
-        drawer = Drawer()
-        answer_call(drawer, 0, [5, 2])
-        for number, worn in ((0, [2, 0]), (1, [2, 2]), (0, [4, 2]), (0, [4, 2]), (2, [4, 2])):
-            answer_call(drawer, 6, [number])
-            self.assertEqual(drawer.worn, worn)
-        answer_call(drawer, 0, [4, 4, 4])
-        self.assertEqual(drawer.worn, [0, 0, 0])
+        told = ask(begin(5, 2), wear(0), look(), wear(1), look(), wear(0), look(), wear(0), look(), wear(2), look())
+        self.assertEqual([row[2:4] for row in told[2::2]], [[2, 0], [2, 2], [4, 2], [4, 2], [4, 2]])
+        self.assertEqual(told[-1], [1, 0, 4, 2, 0, 0, 0, 0, 5, 2])
 
 
 class NothingChanges(unittest.TestCase):
